@@ -1,0 +1,1 @@
+"""Invitations and answers that cross."""
