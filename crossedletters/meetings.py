@@ -4,7 +4,7 @@ Each call is a function of the world and of the call's own numbers, without the 
 It gives back the numbers that are answered; a refusal is one number below 0.
 """
 
-from crossedletters.world import Answer, Guest, LAST_TIME, NO_TIME, PEOPLE, PERHAPS, Word, World, YES
+from crossedletters.world import Answer, Guest, LAST_TIME, NO, NO_ANSWER, NO_TIME, PEOPLE, PERHAPS, Word, World, YES
 
 MOST_MEETINGS = 6
 
@@ -15,13 +15,20 @@ NOT_SO = -4
 FULL = -5
 
 # How many numbers stand behind a call's own number. Behind those of new come its guests.
-SIZES = {0: 3, 1: 2, 2: 1, 3: 2, 4: 2, 5: 4, 6: 2, 7: 1, 9: 1, 12: 0, 13: 1, 14: 2}
+SIZES = {0: 3, 1: 2, 2: 1, 3: 2, 4: 2, 5: 4, 6: 2, 7: 1, 8: 2, 9: 1, 10: 1, 11: 1, 12: 0, 13: 1, 14: 2, 15: 1}
 NEW = 0
 AT_GUESTS = 3
+
+# What stands in the place of an answer where a person is shown a meeting of their own.
+IS_HOST = 4
 
 
 def is_meeting(world, number):
     return number < len(world.meetings)
+
+
+def is_letter(world, number):
+    return number < len(world.letters)
 
 
 def refusal_to_change(world, number):
@@ -115,7 +122,7 @@ def give_answer(world, numbers):
     copy = world.copy_of(person, number)
     if copy is None:
         return [NOT_SO]
-    if copy.word.off == 1 or copy.word.asked == 0:
+    if not copy.invites():
         return [OVER]
     copy.given += 1
     copy.answer = what
@@ -145,10 +152,37 @@ def nudge_guests(world, numbers):
     return [len(meeting.guests)]
 
 
+def press_answer(world, numbers):
+    person = numbers[0]
+    number = numbers[1]
+    if not is_meeting(world, number):
+        return [NOT_THERE]
+    copy = world.copy_of(person, number)
+    if copy is None:
+        return [NOT_SO]
+    if copy.answer == NO_ANSWER:
+        return [OVER]
+    world.send(Answer(world.meetings[number], person, copy))
+    return [copy.given]
+
+
 def take_letter(world, numbers):
-    if numbers[0] >= len(world.letters):
+    if not is_letter(world, numbers[0]):
         return [NOT_THERE]
     return [world.hand_over(world.letters.pop(numbers[0]))]
+
+
+def keep_letter(world, numbers):
+    if not is_letter(world, numbers[0]):
+        return [NOT_THERE]
+    return [world.hand_over(world.letters[numbers[0]])]
+
+
+def lose_letter(world, numbers):
+    if not is_letter(world, numbers[0]):
+        return [NOT_THERE]
+    world.letters.pop(numbers[0])
+    return [0]
 
 
 def show_letters(world, numbers):
@@ -180,6 +214,28 @@ def show_copy(world, numbers):
     return told + [copy.given, copy.answer, copy.wish]
 
 
+def row_for(world, person, meeting):
+    """Time, number and what, as this person is shown the meeting; None if they aren't shown it."""
+    if meeting.host == person:
+        return (meeting.time, meeting.number, IS_HOST) if meeting.off == 0 else None
+    copy = world.copy_of(person, meeting.number)
+    if copy is None or not copy.invites() or copy.answer == NO:
+        return None
+    return (copy.word.time, meeting.number, copy.answer)
+
+
+def show_person(world, numbers):
+    person = numbers[0]
+    if person >= PEOPLE:
+        return [WRONG]
+    rows = [row_for(world, person, meeting) for meeting in world.meetings]
+    rows = sorted([row for row in rows if row is not None])
+    shown = [len(rows)]
+    for row in rows:
+        shown.extend(row)
+    return shown
+
+
 CALLS = {
     0: new_meeting,
     1: move_meeting,
@@ -189,10 +245,14 @@ CALLS = {
     5: give_answer,
     6: grant_wish,
     7: nudge_guests,
+    8: press_answer,
     9: take_letter,
+    10: keep_letter,
+    11: lose_letter,
     12: show_letters,
     13: show_host,
     14: show_copy,
+    15: show_person,
 }
 
 

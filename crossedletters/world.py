@@ -7,6 +7,7 @@ MOST_LETTERS = 100
 NO_TIME = -1
 NO_ANSWER = 0
 YES = 1
+NO = 2
 PERHAPS = 3
 
 WORD = 0
@@ -110,6 +111,10 @@ class Copy:
             self.answer = NO_ANSWER
             self.wish = NO_TIME
         self.word = word
+
+    def invites(self):
+        """Whether, by what was told, they may answer."""
+        return self.word.off == 0 and self.word.asked == 1
 
 
 class World:

@@ -37,8 +37,20 @@ def nudge(meeting):
     return [7, meeting]
 
 
+def press(person, meeting):
+    return [8, person, meeting]
+
+
 def take(letter):
     return [9, letter]
+
+
+def keep(letter):
+    return [10, letter]
+
+
+def lose(letter):
+    return [11, letter]
 
 
 def letters():
@@ -51,6 +63,10 @@ def host(meeting):
 
 def copy(person, meeting):
     return [14, person, meeting]
+
+
+def shown(person):
+    return [15, person]
 
 
 def split(flat):
@@ -71,6 +87,7 @@ def flatten(calls):
 
 def run(*calls):
     """What is answered to each of the calls, a list each."""
+    assert 1 <= len(calls) <= 100, len(calls)
     rows = split(answers(flatten(calls)))
     assert len(rows) == len(calls), rows
     return rows
@@ -83,27 +100,28 @@ def last(*calls):
 
 def sent(*calls):
     """The letters on their way after the calls, a list each."""
-    shown = last(*calls, letters())
+    told = last(*calls, letters())
     rows = []
     at = 1
-    while at < len(shown):
-        size = 9 if shown[at] == 0 else 8
-        rows.append(shown[at:at + size])
+    while at < len(told):
+        size = 9 if told[at] == 0 else 8
+        rows.append(told[at:at + size])
         at += size
-    assert len(rows) == shown[0], shown
+    assert len(rows) == told[0], told
     return rows
 
 
 def guests_of(meeting, *calls):
     """What the host knows of each guest after the calls, a list each."""
-    shown = last(*calls, host(meeting))
-    rows = [shown[at:at + 6] for at in range(6, len(shown), 6)]
-    assert len(rows) == shown[5], shown
+    told = last(*calls, host(meeting))
+    rows = [told[at:at + 6] for at in range(6, len(told), 6)]
+    assert len(rows) == told[5], told
     return rows
 
 
 # Whatever can be seen of meetings, copies and letters.
 LOOKS = [letters()] + [host(m) for m in range(7)] + [copy(p, m) for p in range(5) for m in range(6)]
+LOOKS += [shown(p) for p in range(5)]
 
 
 class LineCase(unittest.TestCase):

@@ -1,11 +1,15 @@
-"""The net, what is handed over, and the calls by which all that is seen (points 10, 13, 14, 15)."""
+"""The net: room for 100, and take, keep and lose (points 10, 11, 12)."""
 
-from lines import LineCase, answer, ask, copy, grant, guests_of, host, last, leave, letters, move, new, nudge, off, run
-from lines import sent, take
+from lines import LineCase, answer, ask, copy, guests_of, keep, last, leave, letters, lose, move, new, nudge, off, press
+from lines import run, sent, take
 
 # 4 letters, then 4 each time: 100.
 FULL = [new(0, 10, 1, 2, 3, 4)] + [nudge(0)] * 24
 HEARD = [new(0, 10, 1), take(0)]
+# Words to 1, 2, 3, 4, then person 1's answer: each letter another.
+FIVE = [new(0, 10, 1, 2, 3, 4), keep(0), answer(1, 0, 3, 6)]
+ROWS = [[0, 1, 0, 0, 1, 1, 10, 0, 1], [0, 2, 0, 0, 1, 1, 10, 0, 1], [0, 3, 0, 0, 1, 1, 10, 0, 1],
+        [0, 4, 0, 0, 1, 1, 10, 0, 1], [1, 0, 1, 0, 1, 1, 3, 5]]
 
 
 class Room(LineCase):
@@ -20,6 +24,10 @@ class Room(LineCase):
             self.assertEqual(sent(*FULL, call), before)
         self.assertEqual([row[1] for row in guests_of(0, *FULL, move(0, 20))], [2, 2, 2, 2])
         self.assertEqual([row[1] for row in guests_of(0, *FULL, nudge(0))], [1, 1, 1, 1])
+        # Person 1's third word is lost where the second one was lost, too.
+        self.assertEqual(last(*FULL, leave(0, 1), ask(0, 1)), [4])
+        self.assertEqual(sent(*FULL, leave(0, 1), ask(0, 1)), before)
+        self.assertEqual(guests_of(0, *FULL, leave(0, 1), ask(0, 1))[0], [1, 3, 1, 0, 0, -1])
 
     def test_an_answer_without_room_is_lost_but_was_given(self):
         line = FULL + [take(0), new(1, 5, 2), answer(1, 0, 2, 31)]
@@ -30,121 +38,111 @@ class Room(LineCase):
         self.assertEqual(rows[-1], [0, 2, 1, 1, 1, 1, 5, 0, 1])
 
     def test_what_finds_room_goes_and_the_rest_is_lost(self):
-        line = FULL + [take(0), take(0), move(0, 20)]
-        rows = sent(*line)
-        self.assertEqual(len(rows), 100)
-        self.assertEqual(rows[98:], [[0, 1, 0, 0, 2, 2, 20, 0, 1], [0, 2, 0, 0, 2, 2, 20, 0, 1]])
-        self.assertEqual([row[1] for row in guests_of(0, *line)], [2, 2, 2, 2])
+        for taken in take, lose:
+            line = FULL + [taken(0), taken(0), move(0, 20)]
+            rows = sent(*line)
+            self.assertEqual(len(rows), 100)
+            self.assertEqual(rows[98:], [[0, 1, 0, 0, 2, 2, 20, 0, 1], [0, 2, 0, 0, 2, 2, 20, 0, 1]])
+            self.assertEqual([row[1] for row in guests_of(0, *line)], [2, 2, 2, 2])
 
-    def test_last_letter(self):
+    def test_what_is_kept_makes_no_room(self):
+        before = sent(*FULL)
+        self.assertEqual(sent(*FULL, keep(0), answer(1, 0, 1)), before)
+        self.assertEqual(sent(*FULL, keep(0), answer(1, 0, 1), press(1, 0)), before)
+        self.assertEqual(sent(*FULL, keep(0), answer(1, 0, 1), lose(7), press(1, 0)),
+                         before[:7] + before[8:] + [[1, 0, 1, 0, 1, 1, 1, -1]])
+
+    def test_last_letter_of_100(self):
         self.assertEqual(run(*FULL, take(99), take(99))[-2:], [[1], [-3]])
+        self.assertEqual(run(*FULL, lose(99), lose(99))[-2:], [[0], [-3]])
+        self.assertEqual(run(*FULL, keep(99), keep(99), keep(100))[-3:], [[1], [0], [-3]])
+        for call in take(100), keep(100), lose(100), take(200), keep(200), lose(200):
+            self.assert_refused(-3, FULL, call)
+
+
+class NoSuchLetter(LineCase):
+    def test_no_letters(self):
+        for call in take(0), keep(0), lose(0), take(1), keep(1), lose(1):
+            self.assert_refused(-3, [], call)
+            self.assert_refused(-3, [new(0, 10)], call)
+            self.assert_refused(-3, HEARD, call)
+
+    def test_the_one_behind_the_last(self):
+        for call, answered in (take(4), 2), (keep(4), 2), (lose(4), 0):
+            self.assertEqual(last(*FIVE, call), [answered])
+        for call in take(5), keep(5), lose(5), take(200), keep(200), lose(200):
+            self.assert_refused(-3, FIVE, call)
+
+    def test_the_row_is_shorter_behind_take_and_lose(self):
+        for before in take(0), lose(0):
+            for call in take(4), keep(4), lose(4):
+                self.assert_refused(-3, FIVE + [before], call)
+        self.assertEqual(run(*FIVE, keep(0), take(4))[-1], [2])
 
 
 class Take(LineCase):
-    def test_is_taken_out_of_the_row(self):
-        self.assertEqual(sent(new(0, 10, 1, 2, 3), take(1)),
-                         [[0, 1, 0, 0, 1, 1, 10, 0, 1], [0, 3, 0, 0, 1, 1, 10, 0, 1]])
+    def test_is_taken_out_and_those_behind_move_up(self):
+        for letter in range(5):
+            self.assertEqual(sent(*FIVE, take(letter)), ROWS[:letter] + ROWS[letter + 1:])
+
+    def test_is_handed_over(self):
+        self.assertEqual(run(*FIVE, take(1), copy(2, 0))[-2:], [[1], [1, 1, 10, 0, 1, 0, 0, -1]])
+        self.assertEqual(last(*FIVE, take(4)), [2])
+        self.assertEqual(guests_of(0, *FIVE, take(4))[0], [1, 1, 1, 1, 3, 5])
 
     def test_of_no_use_is_taken_out_too(self):
         self.assertEqual(run(*HEARD, nudge(0), take(0), letters())[-2:], [[0], [0]])
 
-    def test_no_such_letter(self):
-        self.assert_refused(-3, [], take(0))
-        self.assert_refused(-3, [new(0, 10, 1)], take(1))
-        self.assert_refused(-3, [new(0, 10, 1)], take(200))
+    def test_the_next_one_has_its_number(self):
+        self.assertEqual(run(*FIVE, take(1), take(1), take(1), copy(2, 0), copy(3, 0), copy(4, 0))[-6:],
+                         [[1], [1], [1]] + [[1, 1, 10, 0, 1, 0, 0, -1]] * 3)
 
 
-class WordHandedOver(LineCase):
-    def test_without_a_copy_there_is_one_as_told(self):
-        self.assertEqual(run(new(0, 10, 1), take(0), copy(1, 0))[1:], [[1], [1, 1, 10, 0, 1, 0, 0, -1]])
+class Keep(LineCase):
+    def test_lies_on_where_it_lay(self):
+        for letter in range(5):
+            self.assertEqual(sent(*FIVE, keep(letter)), ROWS)
+            self.assertEqual(sent(*FIVE, keep(letter), keep(letter)), ROWS)
 
-    def test_the_first_heard_may_be_a_later_one(self):
-        line = [new(0, 10, 1), move(0, 20), take(1)]
-        self.assertEqual(run(*line, copy(1, 0))[2:], [[1], [2, 2, 20, 0, 1, 0, 0, -1]])
-        self.assertEqual(run(*line, take(0), copy(1, 0))[3:], [[0], [2, 2, 20, 0, 1, 0, 0, -1]])
+    def test_is_handed_over(self):
+        self.assertEqual(run(*FIVE, keep(1), copy(2, 0))[-2:], [[1], [1, 1, 10, 0, 1, 0, 0, -1]])
+        self.assertEqual(last(*FIVE, keep(4)), [2])
+        self.assertEqual(guests_of(0, *FIVE, keep(4))[0], [1, 1, 1, 1, 3, 5])
 
-    def test_a_later_one_of_this_round_leaves_the_answer(self):
-        line = HEARD + [answer(1, 0, 1, 31), leave(0, 1), take(1)]
-        self.assertEqual(run(*line, copy(1, 0))[-2:], [[1], [2, 1, 10, 0, 0, 1, 1, 30]])
-        self.assertEqual(last(*line, ask(0, 1), take(1), copy(1, 0)), [3, 1, 10, 0, 1, 1, 1, 30])
+    def test_comes_twice(self):
+        self.assertEqual(run(*FIVE, keep(1), keep(1), take(1), take(1))[-4:], [[1], [0], [0], [1]])
+        self.assertEqual(run(*FIVE, keep(4), keep(4), take(4), take(4))[-4:], [[2], [0], [0], [-3]])
 
-    def test_one_of_another_round_takes_answer_and_wish_but_not_how_many(self):
-        line = HEARD + [answer(1, 0, 1, 31), move(0, 20), take(1)]
-        self.assertEqual(run(*line, copy(1, 0))[-2:], [[1], [2, 2, 20, 0, 1, 1, 0, -1]])
+    def test_of_no_use_lies_on_too(self):
+        self.assertEqual(last(*FIVE, keep(0)), [0])
+        self.assertEqual(sent(*FIVE, keep(0)), ROWS)
 
-    def test_called_off(self):
-        self.assertEqual(last(*HEARD, off(0), take(0), copy(1, 0)), [2, 1, 10, 1, 1, 0, 0, -1])
+    def test_tells_what_it_told_when_it_was_sent(self):
+        line = FIVE + [move(0, 20), keep(1)]
+        self.assertEqual(last(*line, copy(2, 0)), [1, 1, 10, 0, 1, 0, 0, -1])
+        self.assertEqual(sent(*line)[:5], ROWS)
 
-    def test_the_same_number_is_of_no_use_whatever_it_tells(self):
-        # Who isn't asked is not told of a move, so the nudge has their old number and the new round.
-        line = HEARD + [leave(0, 1), take(0), move(0, 20), nudge(0), take(0)]
-        self.assertEqual(run(*line, copy(1, 0))[-2:], [[0], [2, 1, 10, 0, 0, 0, 0, -1]])
-
-
-class AnswerHandedOver(LineCase):
-    def assert_of_no_use(self, before, letter):
-        known = guests_of(0, *before)
-        self.assertEqual(last(*before, take(letter)), [0])
-        self.assertEqual(guests_of(0, *before, take(letter)), known)
-
-    def test_counts(self):
-        line = HEARD + [answer(1, 0, 2, 31), take(0)]
-        self.assertEqual(last(*line), [2])
-        self.assertEqual(guests_of(0, *line), [[1, 1, 1, 1, 2, 30]])
-
-    def test_a_later_one_counts_and_an_earlier_one_then_does_not(self):
-        line = HEARD + [answer(1, 0, 1, 31), answer(1, 0, 2), take(1)]
-        self.assertEqual(guests_of(0, *line), [[1, 1, 1, 2, 2, -1]])
-        self.assert_of_no_use(line, 0)
-        self.assertEqual(guests_of(0, *HEARD, answer(1, 0, 1, 31), answer(1, 0, 2), take(0), take(0)),
-                         [[1, 1, 1, 2, 2, -1]])
-
-    def test_of_another_round(self):
-        self.assert_of_no_use(HEARD + [answer(1, 0, 1), move(0, 20)], 0)
-        self.assert_of_no_use(HEARD + [answer(1, 0, 1, 31), move(0, 10)], 0)
-
-    def test_not_asked_now(self):
-        line = HEARD + [answer(1, 0, 1), leave(0, 1)]
-        self.assert_of_no_use(line, 0)
-        self.assertEqual(last(*line, ask(0, 1), take(0)), [2])
-
-    def test_called_off(self):
-        self.assert_of_no_use(HEARD + [answer(1, 0, 1), off(0)], 0)
-
-    def test_goes_to_its_own_meeting_and_guest(self):
-        line = [new(0, 1, 2, 3), new(1, 1, 2, 3), take(3), answer(3, 1, 1), take(3)]
-        self.assertEqual(last(*line), [2])
-        self.assertEqual([row[4] for row in guests_of(0, *line)], [0, 0])
-        self.assertEqual([row[4] for row in guests_of(1, *line)], [0, 1])
+    def test_a_kept_word_stays_as_it_was_whatever_becomes_of_the_copy(self):
+        line = FIVE + [answer(1, 0, 1), move(0, 20), take(6), off(0), take(9)]
+        self.assertEqual(last(*line, copy(1, 0)), [3, 2, 20, 1, 1, 2, 0, -1])
+        self.assertEqual(sent(*line)[:5], ROWS)
 
 
-class Looks(LineCase):
-    def test_letters(self):
-        self.assertEqual(last(letters()), [0])
-        self.assertEqual(last(*HEARD, answer(1, 0, 3), new(2, 5, 4), letters()),
-                         [2, 1, 0, 1, 0, 1, 1, 3, -1, 0, 4, 2, 1, 1, 1, 5, 0, 1])
+class Lose(LineCase):
+    def test_is_taken_out_and_those_behind_move_up(self):
+        for letter in range(5):
+            self.assertEqual(last(*FIVE, lose(letter)), [0])
+            self.assertEqual(sent(*FIVE, lose(letter)), ROWS[:letter] + ROWS[letter + 1:])
 
-    def test_host_counts_yes_alone(self):
-        line = [new(0, 10, 1, 2, 3, 4), take(0), take(0), take(0), take(0)]
-        said = [answer(1, 0, 1), answer(2, 0, 2), answer(3, 0, 3), answer(4, 0, 1), take(0), take(0), take(0)]
-        self.assertEqual(last(*line, *said, host(0))[4], 1)
-        self.assertEqual(last(*line, *said, take(0), host(0))[4], 2)
+    def test_is_not_handed_over(self):
+        self.assertEqual(last(*FIVE, lose(1), copy(2, 0)), [-4])
+        self.assertEqual(guests_of(0, *FIVE, lose(4)), guests_of(0, *FIVE))
 
-    def test_host_of_no_meeting(self):
-        self.assert_refused(-3, [], host(0))
-        self.assert_refused(-3, HEARD, host(1))
+    def test_was_sent_all_the_same(self):
+        self.assertEqual([row[1] for row in guests_of(0, new(0, 10, 1, 2), lose(0), lose(0))], [1, 1])
+        self.assertEqual(last(*FIVE, lose(4), answer(1, 0, 1)), [2])
 
-    def test_copy(self):
-        self.assert_refused(-3, HEARD, copy(1, 1))
-        for person in 0, 2, 5, 20:
-            self.assert_refused(-4, HEARD, copy(person, 0))
-            self.assert_refused(-3, HEARD, copy(person, 1))
-
-    def test_a_few_letters_more_bring_all_to_the_same(self):
-        line = [new(0, 10, 1, 2), take(0), answer(1, 0, 1, 31), take(1), grant(0, 1), take(1), nudge(0), take(3),
-                answer(2, 0, 1), take(3)]
-        self.assertEqual(run(*line, host(0), copy(1, 0), copy(2, 0))[-3:], [
-            [0, 2, 30, 0, 1, 2, 1, 2, 1, 1, 0, -1, 2, 2, 1, 1, 1, -1],
-            [2, 2, 30, 0, 1, 1, 0, -1],
-            [2, 2, 30, 0, 1, 1, 1, -1],
-        ])
+    def test_of_two_alike_one_is_left(self):
+        line = [new(0, 10, 1), nudge(0), lose(0)]
+        self.assertEqual(sent(*line), ROWS[:1])
+        self.assertEqual(last(*line, take(0)), [1])
